@@ -1,0 +1,1 @@
+"""Letters that answer one another, told as threads."""
