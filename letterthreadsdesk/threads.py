@@ -107,6 +107,10 @@ def cut_rings(said, by_age):
     return answers
 
 
+def answers_among(by_age):
+    return cut_rings(said_answers(by_age), by_age)
+
+
 def chain_from(number, answers):
     chain = [number]
     following = answers[number]
@@ -114,6 +118,10 @@ def chain_from(number, answers):
         chain.append(following)
         following = answers[following]
     return chain
+
+
+def first_of_thread(number, answers):
+    return chain_from(number, answers)[-1]
 
 
 # The keys are just those that are shown.
@@ -145,18 +153,37 @@ def tell_thread(first, answers, times):
     return told
 
 
+# Whatever is shown is so by the chain of a letter that's here, so the keys are the firsts of all threads.
+def latest_times(by_age, answers):
+    latest = {}
+    for letter in by_age:
+        # Letters come from the earliest on, so the last one to write its time here is its thread's latest.
+        latest[first_of_thread(letter.number, answers)] = letter.written
+    return latest
+
+
 def thread(i, letters):
     read = read_letters(letters)
     if not are_letters_allowed(read):
         return [LETTERS_REFUSED]
     by_age = earliest_first(read)
-    answers = cut_rings(said_answers(by_age), by_age)
+    answers = answers_among(by_age)
     times = times_of_shown(by_age, answers)
     if i not in times:
         return [NOT_SHOWN]
     here = [letter.number for letter in by_age]
-    told = tell_thread(chain_from(i, answers)[-1], answers, times)
+    told = tell_thread(first_of_thread(i, answers), answers, times)
     answer = [len(told)]
     for step in told:
         answer.extend([step[0], step[1], 1 if step[1] in here else 0])
     return answer
+
+
+def threads(letters):
+    read = read_letters(letters)
+    if not are_letters_allowed(read):
+        return [LETTERS_REFUSED]
+    by_age = earliest_first(read)
+    latest = latest_times(by_age, answers_among(by_age))
+    firsts = sorted(latest, key=lambda first: (-latest[first], first))
+    return [len(firsts)] + firsts

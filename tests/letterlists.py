@@ -1,4 +1,5 @@
-"""What several tests need: lists of letters as the program takes them, and letters made by a fixed seed."""
+"""What several tests need: lists of letters as the program takes them, letters made by a fixed seed,
+and what those answer by the words of the document, worked out apart from the program."""
 
 import random
 
@@ -37,3 +38,61 @@ def made_letters(seed):
         named = [chance.choice(pool) for _ in range(chance.choice([0, 1, 1, 2, 3, 4]))]
         letters.append((number, chance.randrange(times), named))
     return letters
+
+
+def said_by_document(letters):
+    """{number: what it's said to answer}, worked out by the words of the document."""
+    age = {number: (time, number) for number, time, _ in letters}
+    tellers = {}
+    said = {}
+    for number, _, named in letters:
+        named = [other for other in named if other != number]
+        for other in named:
+            said.setdefault(other, None)
+            behind = [before for before, after in zip(named, named[1:]) if after == other]
+            if behind and behind[0] != other:
+                tellers.setdefault(other, []).append((age[number], behind[0]))
+    for number, told_by in tellers.items():
+        said[number] = min(told_by)[1]
+    for number, _, named in letters:
+        named = [other for other in named if other != number]
+        said[number] = named[-1] if named else None
+    return said
+
+
+def answered_by_document(letters):
+    """The same with the first of each ring answering nothing."""
+    age = {number: (0, time, number) for number, time, _ in letters}
+    said = said_by_document(letters)
+    answered = dict(said)
+    for number in said:
+        ring, following = [], number
+        for _ in said:
+            following = said.get(following)
+            ring.append(following)
+            if following == number:
+                first = min(ring, key=lambda one: age.get(one, (1, 0, one)))
+                answered[first] = None
+                break
+    return answered
+
+
+def shown_by_document(letters):
+    """The letters that are here, and whatever their chains come to."""
+    document = answered_by_document(letters)
+    shown = set()
+    for number, _, _ in letters:
+        while number is not None:
+            shown.add(number)
+            number = document[number]
+    return shown
+
+
+class Unchanging(list):
+    """A list that can't be changed, not for a while either."""
+
+    def refuse(self, *args, **kwargs):
+        raise AssertionError("what is handed in was changed")
+
+    append = clear = extend = insert = pop = remove = reverse = sort = refuse
+    __setitem__ = __delitem__ = __iadd__ = __imul__ = refuse

@@ -6,7 +6,7 @@ import random
 import unittest
 
 import letterthreadsdesk.threads
-from letterlists import listed, made_letters, rows_of
+from letterlists import Unchanging, answered_by_document, listed, made_letters, rows_of, shown_by_document
 from letterthreadsdesk.threads import thread
 
 SEEDS = range(1500)
@@ -33,43 +33,6 @@ def answered_by_rows(rows):
         path = path[:deep]
         answered[number] = path[-1] if path else None
         path.append(number)
-    return answered
-
-
-def said_by_document(letters):
-    """{number: what it's said to answer}, worked out by the words of the document."""
-    age = {number: (time, number) for number, time, _ in letters}
-    tellers = {}
-    said = {}
-    for number, _, named in letters:
-        named = [other for other in named if other != number]
-        for other in named:
-            said.setdefault(other, None)
-            behind = [before for before, after in zip(named, named[1:]) if after == other]
-            if behind and behind[0] != other:
-                tellers.setdefault(other, []).append((age[number], behind[0]))
-    for number, told_by in tellers.items():
-        said[number] = min(told_by)[1]
-    for number, _, named in letters:
-        named = [other for other in named if other != number]
-        said[number] = named[-1] if named else None
-    return said
-
-
-def answered_by_document(letters):
-    """The same with the first of each ring answering nothing."""
-    age = {number: (0, time, number) for number, time, _ in letters}
-    said = said_by_document(letters)
-    answered = dict(said)
-    for number in said:
-        ring, following = [], number
-        for _ in said:
-            following = said.get(following)
-            ring.append(following)
-            if following == number:
-                first = min(ring, key=lambda one: age.get(one, (1, 0, one)))
-                answered[first] = None
-                break
     return answered
 
 
@@ -118,13 +81,7 @@ class Holds(unittest.TestCase):
     def test_shown_are_letters_here_and_whatever_their_chains_come_to(self):
         for seed in SEEDS:
             letters = made_letters(seed)
-            document = answered_by_document(letters)
-            shown = set()
-            for number, _, _ in letters:
-                while number is not None:
-                    shown.add(number)
-                    number = document[number]
-            self.assertEqual(set(told_threads(letters)), shown, letters)
+            self.assertEqual(set(told_threads(letters)), shown_by_document(letters), letters)
 
     def test_what_answers_one_is_told_by_time_then_number(self):
         for seed in SEEDS:
@@ -142,16 +99,6 @@ class Holds(unittest.TestCase):
                     answers.setdefault(answered, []).append((times[number], number))
                 for together in answers.values():
                     self.assertEqual(together, sorted(together), letters)
-
-
-class Unchanging(list):
-    """A list that can't be changed, not for a while either."""
-
-    def refuse(self, *args, **kwargs):
-        raise AssertionError("what is handed in was changed")
-
-    append = clear = extend = insert = pop = remove = reverse = sort = refuse
-    __setitem__ = __delitem__ = __iadd__ = __imul__ = refuse
 
 
 class Interface(unittest.TestCase):

@@ -1,19 +1,23 @@
-"""Promise 1 as far as it speaks of thread, and -2 of promise 2."""
+"""Promise 1, which holds for both calls, and just inside each of its bounds."""
 
 import unittest
 
-from letterlists import listed, told
-from letterthreadsdesk.threads import thread
+from letterlists import listed
+from letterthreadsdesk.threads import thread, threads
 
 
 class LettersRefused(unittest.TestCase):
     def refused(self, *letters):
+        self.assertEqual(threads(listed(*letters)), [-22], letters)
         shown_or_not = [number for number, time, named in letters] + [0, 777, 4294967295]
         for i in shown_or_not:
             self.assertEqual(thread(i, listed(*letters)), [-22], (i, letters))
 
     def test_seventeen_letters(self):
         self.refused(*[(number, 5, []) for number in range(1, 18)])
+
+    def test_seventeen_letters_in_one_thread(self):
+        self.refused(*[(number, 5, [1]) for number in range(1, 18)])
 
     def test_as_many_letters_as_a_list_holds(self):
         self.refused(*[(number, 5, []) for number in range(1, 334)])
@@ -55,28 +59,39 @@ class LettersRefused(unittest.TestCase):
         self.refused((1, 1, []), (2, 2, [1]), (3, 3, [65536]))
 
 
-class NotShown(unittest.TestCase):
-    def not_shown(self, i, *letters):
-        self.assertEqual(thread(i, listed(*letters)), [-2], (i, letters))
+class JustInside(unittest.TestCase):
+    def answered(self, firsts, *letters):
+        self.assertEqual(threads(listed(*letters)), [len(firsts)] + firsts, letters)
+        for first in firsts:
+            self.assertEqual(thread(first, listed(*letters))[1:3], [0, first], letters)
 
-    def test_one_that_no_letter_names(self):
-        self.not_shown(7, (1, 1, []), (2, 2, [1]))
+    def test_sixteen_letters(self):
+        self.answered(list(range(1, 17)), *[(number, 5, []) for number in range(1, 17)])
 
-    def test_numbers_that_no_letter_can_have(self):
-        for i in (0, 65536, 4294967295):
-            self.not_shown(i, (1, 1, []), (2, 2, [1, 3]))
+    def test_four_named(self):
+        self.answered([1], (9, 1, [1, 2, 3, 4]))
 
-    def test_one_named_to_which_no_chain_comes(self):
-        # 2 is here and answers nothing, whatever stands ahead of it where 3 names it.
-        self.not_shown(8, (2, 1, []), (3, 2, [8, 2]))
+    def test_four_named_its_own_number_among_them(self):
+        self.answered([1], (9, 1, [1, 2, 3, 9]))
 
-    def test_one_named_of_which_an_earlier_letter_tells_otherwise(self):
-        self.not_shown(20, (1, 10, [20, 9]), (2, 5, [30, 9]))
+    def test_four_times_one_named(self):
+        self.answered([2], (9, 1, [2, 2, 2, 2]))
 
-    def test_the_letters_refusal_goes_ahead(self):
-        self.assertEqual(thread(7, listed((1, 1, []), (1, 2, []))), [-22])
-        self.assertEqual(thread(7, listed((1, 1, []), (2, 2, []))), [-2])
-        self.assertEqual(thread(2, listed((1, 1, []), (2, 2, []))), told((0, 2, 1)))
+    def test_sixteen_letters_that_name_four_each(self):
+        letters = [(number, number, [100 + number, 200, 300, 400]) for number in range(1, 17)]
+        self.answered([101], *letters)
+
+    def test_least_and_greatest_number_of_a_letter(self):
+        self.answered([1, 65535], (65535, 5, []), (1, 5, []))
+
+    def test_least_and_greatest_named_number(self):
+        self.answered([1, 65535], (7, 5, [65535]), (8, 5, [1]))
+
+    def test_numbers_one_apart(self):
+        self.answered([3, 4], (3, 1, []), (4, 1, []))
+
+    def test_a_number_that_is_named_twice_over_is_no_second_letter(self):
+        self.answered([3], (3, 1, []), (4, 1, [3]), (5, 1, [3, 4]))
 
 
 if __name__ == "__main__":
